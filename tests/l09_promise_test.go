@@ -147,8 +147,8 @@ func checkPromiseOfSafety(t *testing.T, l []impl.Action) {
 	}
 }
 
-// All plans of one or two of these actions, in a row or in each other.
-func TestChecksOfAllShortPlans(t *testing.T) {
+// Plans of two actions, each one of these or a block of them: all that begin with one without a block, and one in 97 of the others.
+func TestChecksOfShortPlans(t *testing.T) {
 	simple := planOf(t, "make 0 drawer; make 1 lamp; wrap 0 counts; wrap 1 runs; unwrap 0; copy 1 from 0; drop 0; ask 0 tell; ask 1 run; call 0 Put k 1; call 1 Start")
 	all := slices.Clone(simple)
 	for _, a := range simple {
