@@ -69,7 +69,7 @@ func TestOpeningDesks(t *testing.T) {
 	d := talk(t, `
 		entry a: lamp; 1.0; keep of b 1.0 => ok
 		open => no host
-		log => no host
+		log => none
 		stuck => a
 		entry b: drawer; 1.0; run of c 1.0 => ok
 		open => no host
@@ -145,7 +145,7 @@ func TestWiringOfDesksWithOtherEntries(t *testing.T) {
 		{"stuck", "none", "a; b"},
 		{"links", "a needs keep of b; c needs tell of a", "a needs run of b; b needs keep of a"},
 		{"open", "open", "no host"},
-		{"log", "start b", "no host"},
+		{"log", "start b", "none"},
 		{"line z", "no entry", "no host"},
 		{"line c", "c down off -", "no host"},
 		{"start c", "ok", "no host"},
@@ -167,6 +167,48 @@ func TestWiringOfDesksWithOtherEntries(t *testing.T) {
 	}
 }
 
+// A desk that is not open has a host too, the zero value: its log is empty, as that of a host just opened is.
+func TestLogsOfClosedDesks(t *testing.T) {
+	talk(t, `
+		log => none
+		entry a: lamp; 1.0 => ok
+		log => none
+		open => ok
+		log => none
+		start a => ok
+		log => start a
+	`)
+	talk(t, `
+		entry a: lamp; 1.0; keep of b 1.0 => ok
+		log => none
+		open => no host
+		log => none
+		start a => no host
+		line a => no host
+		plan make 0 lamp => 1
+		log => none
+		entry b: drawer; 1.0 => ok
+		log => none
+		open => ok
+		start a => ok
+		call b Put k 3 => ok 1
+		log => start a; call b Put k 3
+		call a Start => broken
+		heal a => ok 0
+		log => start a; call b Put k 3; call a Start; heal a
+	`)
+	for _, d := range desksOfAllSorts(t) {
+		if _, answer := checkDeskLine(t, d, "log"); !d.Open && answer != "none" {
+			t.Errorf("the log of the closed desk %s is %q", brief(d), answer)
+		}
+	}
+	// Such a desk is not valid, so its events are not told.
+	d := impl.Desk{Host: impl.Host{Log: []impl.Event{{Kind: impl.HostStart, Name: "a"}}}}
+	if _, answer := checkDeskLine(t, d, "log"); answer != "" {
+		t.Errorf("the log of a closed desk with events is %q", answer)
+	}
+}
+
 func TestEventsOfClosedDesks(t *testing.T) {
 	d := talk(t, `
 		entry a: drawer; 1.0 => ok
@@ -178,7 +220,7 @@ func TestEventsOfClosedDesks(t *testing.T) {
 		swap a lamp => no host
 		start none => no host
 		swap none robot counts => no host
-		log => no host
+		log => none
 		line a => no host
 		line => what
 		line  => no host

@@ -179,7 +179,7 @@ func linksLine(l []impl.Link) string {
 
 func logLine(d impl.Desk) string {
 	if !d.Open {
-		return "no host"
+		return "none"
 	}
 	texts := []string{}
 	for _, x := range d.Host.Log {

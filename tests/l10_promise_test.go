@@ -78,7 +78,7 @@ func TestManyTextsOfCommands(t *testing.T) {
 			countAnswer(counts, line, answer)
 		}
 		checkBeginnings(t, lines, answers, counts)
-		checkPromiseOfLog(t, desk)
+		checkPromiseOfLog(t, desk, counts)
 		checkPromiseOfCheck(t, d, desk, counts)
 		checkToldOfPlan(t, desk)
 		checkToldOfWiring(t, desk)
@@ -87,7 +87,7 @@ func TestManyTextsOfCommands(t *testing.T) {
 		}
 	}
 	for _, what := range strings.Split("entry ok,entry no,open ok,open no,open open,order none,order,stuck none,stuck,links none,links,start ok,start no,stop ok,stop no,swap ok,swap no,call ok,call assert,call off,call broken,call bad,"+
-		"heal ok,heal refused,heal bad,line,line no,log none,log no,log,plan,plan no,check safe,check place,run ok,run place,after,wants,wants no,trim,what,nothing,whole,too long,safe,fails,fails for", ",") {
+		"heal ok,heal refused,heal bad,line,line no,log none,log closed,log empty,log,plan,plan no,check safe,check place,run ok,run place,after,wants,wants no,trim,what,nothing,whole,too long,safe,fails,fails for", ",") {
 		if counts[what] < 20 {
 			t.Errorf("%q has come %d times only", what, counts[what])
 		}
@@ -138,14 +138,18 @@ func say(t *testing.T, desk impl.Desk, line string) string {
 }
 
 // checkPromiseOfLog reads what a desk answers to `log`, and does these events again. No text in the drawn calls has a `; ` in it.
-func checkPromiseOfLog(t *testing.T, desk impl.Desk) {
+func checkPromiseOfLog(t *testing.T, desk impl.Desk, counts map[string]int) {
 	t.Helper()
 	answer := say(t, desk, "log")
 	if !desk.Open {
-		if answer != "no host" {
+		counts["log closed"]++
+		if answer != "none" {
 			t.Errorf("the log of a closed desk is %q", answer)
 		}
 		return
+	}
+	if len(desk.Host.Log) == 0 {
+		counts["log empty"]++
 	}
 	events := []impl.Event{}
 	for _, text := range strings.Split(answer, "; ") {

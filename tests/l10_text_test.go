@@ -39,7 +39,7 @@ func TestTextsOfFewLines(t *testing.T) {
 	checkText(t, "\nopen", "", "ok")
 	checkText(t, "open\n\nopen", "ok", "", "open")
 	checkText(t, "open\nopen\nlog\n", "ok", "open", "none", "")
-	checkText(t, "# open\nlog", "", "no host")
+	checkText(t, "# open\nlog", "", "none")
 	checkText(t, " ", "what")
 	checkText(t, " \n ", "what", "what")
 	checkText(t, "check", "safe")
@@ -48,7 +48,7 @@ func TestTextsOfFewLines(t *testing.T) {
 	checkText(t, "open\nline \nline", "ok", "no entry", "what")
 	// Only line feeds divide lines.
 	checkText(t, "open\rlog", "what")
-	checkText(t, "open\r\nlog", "what", "no host")
+	checkText(t, "open\r\nlog", "what", "none")
 	checkText(t, "open; log", "what")
 	checkText(t, "open\x00log\vlog\flog\u2028log", "what")
 	checkText(t, "open\\nlog", "what")
@@ -60,7 +60,7 @@ func TestTextsBeginWithANewDesk(t *testing.T) {
 	for range 3 {
 		checkText(t, text, "none", "ok", "ok", "ok", "ok 1", "start a; call a Put k 3", "safe", "2", "place 1 wants keep of run")
 	}
-	checkText(t, "log\ncheck\nopen\norder", "no host", "safe", "ok", "none")
+	checkText(t, "log\ncheck\nopen\norder", "none", "safe", "ok", "none")
 }
 
 func TestTextsOfMaxLines(t *testing.T) {
